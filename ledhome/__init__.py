@@ -1,0 +1,1 @@
+"""Ledhome: things led home by exchanges of neighbours at once."""
