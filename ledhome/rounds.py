@@ -45,9 +45,19 @@ def far_from_home(web, things):
 def check_things(web, things):
     """Refuse what are no things of the web."""
     many, _ = web
-    # The length goes first, as the places of a very great web can't be listed.
-    if len(things) != many or not all_at_home(sorted(things)):
+    check_homes(many, things)
+
+
+def check_homes(many, things):
+    """Refuse what are no things of so many places."""
+    if not are_things(many, things):
         raise NoThings(f"these are not {many} things, each place the home of one")
+
+
+def are_things(many, things):
+    """Tell whether these are homes for so many places, each place the home of one."""
+    # The length goes first, as the places of a very great web can't be listed.
+    return len(things) == many and all_at_home(sorted(things))
 
 
 def all_at_home(things):

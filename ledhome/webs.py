@@ -43,13 +43,18 @@ def ring_web(many):
 
 def grid_web(rows, columns):
     """Tell the grid of so many rows and columns."""
-    # Two numbers below 0 have a product above it, so each is looked at by itself.
-    if rows < 1 or columns < 1:
-        raise NoWeb(f"a grid has a row and a column at least, not {rows} and {columns}")
+    check_sizes(rows, columns)
     many = rows * columns
     across = [(place, place + 1) for place in range(many) if (place + 1) % columns != 0]
     down = [(place, place + columns) for place in range(many - columns)]
     return web_of(many, across + down)
+
+
+def check_sizes(rows, columns):
+    """Refuse what are no numbers of rows and columns of a grid."""
+    # Two numbers below 0 have a product above it, so each is looked at by itself.
+    if rows < 1 or columns < 1:
+        raise NoWeb(f"a grid has a row and a column at least, not {rows} and {columns}")
 
 
 def tree_web(parents):

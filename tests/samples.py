@@ -1,5 +1,7 @@
-"""What the tests share: webs of every kind, and slow answers that are worked out another way."""
+"""What the tests share: webs of every kind, slow answers that are worked out another way, and checks."""
 
+import copy
+import unittest
 from itertools import combinations, permutations, product
 
 GREAT = 10 ** 29 + 7
@@ -69,3 +71,119 @@ def moved(things, exchanges):
 def turned(things, by):
     """Things moved on by so many places, round about."""
     return things[by:] + things[:by]
+
+
+def shuffled(items, seed):
+    """The items in an order that each seed settles, the same on every Python."""
+    rest, order, state = list(items), [], seed
+    while rest:
+        state = (state * 6364136223846793005 + 1442695040888963407) % 2 ** 64
+        order.append(rest.pop((state >> 33) % len(rest)))
+    return order
+
+
+def many_things(many):
+    """Things on so many places: at home, from behind, moved on, one far from home, some exchanged, in any order."""
+    home = list(range(many))
+    yield home
+    yield home[::-1]
+    for by in sorted({1 % many, 2 % many, many // 2, many - 1}):
+        yield turned(home, by)
+    for at in sorted({0, many // 3, many - 1}):
+        yield home[1:at + 1] + [0] + home[at + 1:]
+        yield [{0: at, at: 0}.get(place, place) for place in home]
+    yield [place ^ 1 if place | 1 < many else place for place in home]
+    yield home[:many // 2][::-1] + home[many // 2:]
+    yield home[many // 2:] + home[:many // 2][::-1]
+    for seed in range(4):
+        yield shuffled(home, seed)
+
+
+def lists_in(told):
+    """Each list that stands in what is told, itself among them, as often as it stands there."""
+    if told.__class__ is list:
+        yield told
+    if told.__class__ in (list, tuple):
+        for item in told:
+            yield from lists_in(item)
+
+
+def moved_by(things, doing):
+    """The things behind a doing."""
+    for exchanges in doing:
+        things = moved(things, exchanges)
+    return things
+
+
+def fewest_rounds(web):
+    """By things, as tuples, the fewest rounds that lead them home; what never comes home is left out."""
+    rounds = every_round(web)
+    fewest, edge, far = {}, [tuple(range(web[0]))], 0
+    while edge:
+        fewest.update({there: far for there in edge})
+        far += 1
+        edge = {tuple(moved(there, exchanges)) for there in edge for exchanges in rounds} - set(fewest)
+    return fewest
+
+
+def least_doings(web, things, fewest):
+    """Every doing of so many rounds that leads home, the first one first."""
+    home = list(range(web[0]))
+    doings = product(sorted(every_round(web)), repeat=fewest)
+    return [list(doing) for doing in doings if moved_by(things, doing) == home]
+
+
+class Case(unittest.TestCase):
+    """Checks of what is told, and of refusals."""
+
+    def check_refused(self, refusal, function, *handed):
+        """A refusal is of just the class that is named, and leaves what was handed in as it was."""
+        before = copy.deepcopy(handed)
+        with self.assertRaises(refusal) as caught:
+            function(*handed)
+        self.assertIs(caught.exception.__class__, refusal)
+        self.assertEqual(handed, before)
+
+    def check_list(self, told, due):
+        self.assertEqual(told, due)
+        self.assertIs(told.__class__, list)
+
+    def told_by(self, function, *handed):
+        """What is told: the asker's own, with nothing that was handed in changed, kept or told again."""
+        before = copy.deepcopy(handed)
+        told = function(*handed)
+        due = copy.deepcopy(told)
+        self.assertEqual(handed, before)
+        again = function(*handed)
+        self.check_apart((told, again), handed)
+        for one in list(lists_in(told)):
+            one.append("changed")
+        self.assertEqual(handed, before)
+        self.assertEqual(again, due)
+        self.assertEqual(function(*handed), due)
+        return due
+
+    def check_apart(self, told, handed):
+        """No list stands at two places of what is told, and none of them was handed in."""
+        places = [id(one) for one in lists_in(told)]
+        self.assertEqual(len(places), len(set(places)))
+        self.assertFalse(set(places) & {id(one) for one in lists_in(handed)})
+
+    def check_leads_home(self, web, things, doing):
+        """A list of rounds of the web, each a sorted list of tuples, that lead the things home."""
+        self.check_doing(doing)
+        known = set(web[1])
+        for exchanges in doing:
+            self.assertEqual(exchanges, sorted(exchanges))
+            self.assertLessEqual(set(exchanges), known)
+            places = [place for pair in exchanges for place in pair]
+            self.assertEqual(len(places), len(set(places)))
+        self.assertEqual(moved_by(list(things), doing), list(range(web[0])))
+
+    def check_doing(self, doing):
+        self.assertIs(doing.__class__, list)
+        for exchanges in doing:
+            self.assertIs(exchanges.__class__, list)
+            for pair in exchanges:
+                self.assertIs(pair.__class__, tuple)
+                self.assertEqual([place.__class__ for place in pair], [int, int])

@@ -16,6 +16,10 @@ FUNCTIONS = {
     "rounds": {
         "behind_round": 3, "behind_doing": 3, "leads_home": 3, "turned_about": 1, "far_from_home": 2,
     },
+    "lines": {"line_first": 1, "line_home": 1},
+    "grids": {"grid_home": 3, "spread_columns": 1},
+    "along": {"home_along": 2, "tree_of": 1, "never_home": 2},
+    "least": {"least_home": 2, "all_rounds": 1, "levels_show": 3, "levels_of": 2, "how_many_least": 2},
 }
 
 

@@ -8,7 +8,7 @@ from ledhome.errors import NoRound, NoThings
 from ledhome.rounds import behind_doing, behind_round, far_from_home, leads_home, turned_about
 from ledhome.webs import cube_web, line_web, ring_web, web_of
 from samples import (
-    BARE, CUBE, GREAT, GRID, LINE, ONE, PARTS, RING, TREE, WEBS,
+    BARE, CUBE, GREAT, GRID, LINE, ONE, PARTS, RING, TREE, WEBS, Case,
     distances, every_round, every_things, moved, small_webs, turned,
 )
 
@@ -47,21 +47,7 @@ NO_ROUNDS = [
 ]
 
 
-class RoundCase(unittest.TestCase):
-    def check_refused(self, refusal, function, *handed):
-        """A refusal is of just the class that is named, and leaves what was handed in as it was."""
-        before = copy.deepcopy(handed)
-        with self.assertRaises(refusal) as caught:
-            function(*handed)
-        self.assertIs(caught.exception.__class__, refusal)
-        self.assertEqual(handed, before)
-
-    def check_list(self, told, due):
-        self.assertEqual(told, due)
-        self.assertIs(told.__class__, list)
-
-
-class Point9(RoundCase):
+class Point9(Case):
     def test_things_behind_a_round(self):
         self.check_list(behind_round(LINE, [4, 2, 0, 1, 3], [(0, 1), (3, 4)]), [2, 4, 0, 3, 1])
         self.check_list(behind_round(LINE, [4, 2, 0, 1, 3], [(1, 2)]), [4, 0, 2, 1, 3])
@@ -136,7 +122,7 @@ class Point9(RoundCase):
         self.assertEqual(things, [2, 1, 0])
 
 
-class Point10Behind(RoundCase):
+class Point10Behind(Case):
     def test_things_behind_a_doing(self):
         self.check_list(behind_doing(LINE, [1, 0, 2, 4, 3], [[(0, 1), (3, 4)], [(1, 2)]]), [0, 2, 1, 3, 4])
         for web, doing in DOINGS:
@@ -191,7 +177,7 @@ class Point10Behind(RoundCase):
         self.assertEqual(things, [2, 0, 1])
 
 
-class Point10Leads(RoundCase):
+class Point10Leads(Case):
     def test_leads_home(self):
         self.assertIs(leads_home(LINE, [1, 0, 2, 4, 3], [[(0, 1), (3, 4)]]), True)
         self.assertIs(leads_home(LINE, [1, 0, 2, 4, 3], [[(0, 1)]]), False)
@@ -247,7 +233,7 @@ class Point10Leads(RoundCase):
             self.assertEqual((web, things, doing), before)
 
 
-class Point11(RoundCase):
+class Point11(Case):
     def test_turned_about(self):
         self.check_list(turned_about([]), [])
         self.check_list(turned_about([[]]), [[]])
@@ -288,7 +274,7 @@ class Point11(RoundCase):
         self.assertEqual(exchanges, [(0, 1)])
 
 
-class Point12(RoundCase):
+class Point12(Case):
     def test_how_far_things_are_from_home(self):
         self.check_list(far_from_home(LINE, [4, 1, 0, 2, 3]), [4, 0, 2, 1, 1])
         self.check_list(far_from_home(RING, [4, 3, 0, 2, 1]), [1, 2, 2, 1, 2])

@@ -8,18 +8,10 @@ from ledhome.errors import NoPlace, NoWeb
 from ledhome.webs import (
     cube_web, grid_web, hang_together, how_far, line_web, neighbours, ring_web, tree_web, web_of,
 )
-from samples import BARE, CUBE, GREAT, GRID, LINE, ONE, PARTS, RING, TREE, WEBS, distances, small_webs
+from samples import BARE, CUBE, GREAT, GRID, LINE, ONE, PARTS, RING, TREE, WEBS, Case, distances, small_webs
 
 
-class WebCase(unittest.TestCase):
-    def check_refused(self, refusal, function, *handed):
-        """A refusal is of just the class that is named, and leaves what was handed in as it was."""
-        before = copy.deepcopy(handed)
-        with self.assertRaises(refusal) as caught:
-            function(*handed)
-        self.assertIs(caught.exception.__class__, refusal)
-        self.assertEqual(handed, before)
-
+class WebCase(Case):
     def check_web(self, told, many, pairs):
         """A web is a tuple of a number and a list of tuples, and these are just its pairs."""
         self.assertEqual(told, (many, pairs))
