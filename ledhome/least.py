@@ -14,7 +14,7 @@ def least_home(web, things):
     place = never_home(web, things)
     if place is not None:
         return "never", place
-    return "doing", first_least(web, things)
+    return "doing", first_least(web, things, list(range(len(things))))
 
 
 def how_many_least(web, things):
@@ -22,23 +22,28 @@ def how_many_least(web, things):
     check_small(web, things)
     if never_home(web, things) is not None:
         return 0
-    return ways_home(web, things)[-1][tuple(things)]
+    return ways_between(web, things, list(range(len(things))))[-1][tuple(things)]
 
 
 def check_small(web, things):
     """Refuse what are no things of the web, then webs of more places than are gone through."""
     check_things(web, things)
+    check_few_places(web)
+
+
+def check_few_places(web):
+    """Refuse webs of more places than are gone through."""
     many, _ = web
     if many > MOST_PLACES:
         raise TooMany(f"the web has {many} places, not at most {MOST_PLACES}")
 
 
-def first_least(web, things):
-    """Tell the first doing of the fewest rounds that lead home."""
+def first_least(web, things, wishes):
+    """Tell the first doing of the fewest rounds behind which the things stand as wished, as they may come to."""
     rounds = all_rounds(web)
     doing = []
     behind = things
-    for ways in reversed(ways_home(web, things)[:-1]):
+    for ways in reversed(ways_between(web, things, wishes)[:-1]):
         leading = [exchanges for exchanges in rounds if tuple(exchanged(behind, exchanges)) in ways]
         # The round is copied, as it may stand in the doing more than once.
         doing.append(list(leading[0]))
@@ -46,13 +51,13 @@ def first_least(web, things):
     return doing
 
 
-def ways_home(web, things):
-    """Tell for 0 rounds, 1 round and on, up to the fewest for these things, what so many rounds lead home.
+def ways_between(web, things, wishes):
+    """Tell for 0 rounds, 1 round and on, up to the fewest for these things, from where so many lead to the wishes.
 
-    Each is a dict: by how the things stand, as a tuple, how many doings of so many rounds there are.
+    Each is a dict: by how things stand, as a tuple, how many doings of so many rounds there are.
     """
     rounds = all_rounds(web)
-    ways = [{tuple(range(len(things))): 1}]
+    ways = [{tuple(wishes): 1}]
     while tuple(things) not in ways[-1]:
         ways.append(ways_with_one_more(rounds, ways[-1]))
     return ways

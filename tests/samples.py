@@ -99,6 +99,21 @@ def many_things(many):
         yield shuffled(home, seed)
 
 
+def looks(things, start):
+    """The looks, place by place, many more of them than are needed, without those at the end that exchange nothing."""
+    behind, doing = list(things), []
+    for look in range(start, start + 2 * len(things) + 2):
+        pairs = []
+        for place in range(len(things) - 1):
+            if place % 2 == look % 2 and behind[place] > behind[place + 1]:
+                behind[place:place + 2] = behind[place + 1], behind[place]
+                pairs.append((place, place + 1))
+        doing.append(pairs)
+    while doing and doing[-1] == []:
+        doing.pop()
+    return doing
+
+
 def lists_in(told):
     """Each list that stands in what is told, itself among them, as often as it stands there."""
     if told.__class__ is list:

@@ -20,6 +20,9 @@ FUNCTIONS = {
     "grids": {"grid_home": 3, "spread_columns": 1},
     "along": {"home_along": 2, "tree_of": 1, "never_home": 2},
     "least": {"least_home": 2, "all_rounds": 1, "levels_show": 3, "levels_of": 2, "how_many_least": 2},
+    "cubes": {"halves_of": 1, "cube_home": 2},
+    "rings": {"ring_home": 1, "shorter_ways": 1},
+    "kinds": {"homes_for": 3, "least_for": 3, "how_many_come": 2},
 }
 
 

@@ -6,7 +6,7 @@ from itertools import permutations
 from ledhome.errors import NoThings
 from ledhome.lines import line_first, line_home
 from ledhome.webs import line_web
-from samples import GREAT, Case, many_things, shuffled, turned
+from samples import GREAT, Case, looks, many_things, shuffled, turned
 
 NO_THINGS = [
     [], [1], [-1], [GREAT], [0, 0], [1, 1], [1, 2], [0, 2], [2, 0], [0, -1], [-1, 0], [-1, -2], [GREAT, 0], [0, -GREAT],
@@ -16,21 +16,6 @@ NO_THINGS = [
 
 # Far more things than those that a doing of every order could be looked at for.
 GREAT_MANY = [8, 9, 16, 25, 39, 40, 41, 63, 79, 80]
-
-
-def looks(things, start):
-    """The looks, place by place, many more of them than are needed, without those at the end that exchange nothing."""
-    behind, doing = list(things), []
-    for look in range(start, start + 2 * len(things) + 2):
-        pairs = []
-        for place in range(len(things) - 1):
-            if place % 2 == look % 2 and behind[place] > behind[place + 1]:
-                behind[place:place + 2] = behind[place + 1], behind[place]
-                pairs.append((place, place + 1))
-        doing.append(pairs)
-    while doing and doing[-1] == []:
-        doing.pop()
-    return doing
 
 
 def all_orders():
