@@ -12,9 +12,9 @@ def behind_round(web, things, exchanges):
 def behind_doing(web, things, doing):
     """Tell the things behind the rounds of a doing."""
     check_things(web, things)
+    check_doing(web, doing)
     behind = list(things)
     for exchanges in doing:
-        check_round(web, exchanges)
         behind = exchanged(behind, exchanges)
     return behind
 
@@ -65,10 +65,11 @@ def all_at_home(things):
     return things == list(range(len(things)))
 
 
-def check_round(web, exchanges):
-    """Refuse what is no round of the web."""
-    if not is_round(web, exchanges):
-        raise NoRound("a round is a sorted list of pairs of the web, with no place twice")
+def check_doing(web, doing):
+    """Refuse a doing with what is no round of the web."""
+    for exchanges in doing:
+        if not is_round(web, exchanges):
+            raise NoRound("a round is a sorted list of pairs of the web, with no place twice")
 
 
 def is_round(web, exchanges):

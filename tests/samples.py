@@ -4,6 +4,8 @@ import copy
 import unittest
 from itertools import combinations, permutations, product
 
+from ledhome.webs import cube_web, grid_web, line_web, ring_web, tree_web, web_of
+
 GREAT = 10 ** 29 + 7
 
 LINE = (5, [(0, 1), (1, 2), (2, 3), (3, 4)])
@@ -15,6 +17,39 @@ PARTS = (7, [(0, 2), (1, 5), (2, 6), (3, 5)])
 BARE = (4, [])
 ONE = (1, [])
 WEBS = [LINE, RING, GRID, TREE, CUBE, PARTS, BARE, ONE]
+
+STAR = tree_web([0] * 39)
+FULL = web_of(40, list(combinations(range(40), 2)))
+GREAT_WEBS = [
+    line_web(40), ring_web(40), grid_web(5, 8), cube_web(5), STAR, FULL, web_of(40, [(k, 39) for k in range(39)]),
+    tree_web([k // 2 for k in range(39)]), tree_web([max(0, k - 3) for k in range(39)]),
+    web_of(40, [(k, k + 5) for k in range(35)] + [(k, k * 3 % 40) for k in range(1, 20)] + [(0, 39)]),
+]
+
+# What are no things of a web of five places.
+NO_THINGS = [
+    [], [0, 1, 2, 3], [1, 2, 3, 4], [0, 1, 2, 3, 4, 5], [0, 1, 2, 3, 4, 4], [0, 1, 2, 3, 5], [5, 4, 3, 2, 1],
+    [1, 2, 3, 4, 5], [0, 1, 2, 3, -1], [0, 1, 2, 3, 3], [0, 0, 2, 3, 4], [4, 4, 4, 4, 4], [GREAT, 1, 2, 3, 4],
+    [-GREAT, 1, 2, 3, 4],
+]
+
+# What is no round of the line of five places, each for one reason.
+NO_ROUNDS = [
+    [(2, 3), (0, 1)],
+    [(1, 0)],
+    [(0, 1), (3, 2)],
+    [(0, 1), (0, 1)],
+    [(0, 1), (2, 3), (2, 3)],
+    [(0, 1), (1, 2)],
+    [(0, 2)],
+    [(0, 1), (2, 4)],
+    [(2, 2)],
+    [(4, 5)],
+    [(-1, 0)],
+    [(GREAT, GREAT + 1)],
+    [(-GREAT, 3)],
+    [(0, 1), (4, GREAT)],
+]
 
 
 def small_webs(most):
@@ -112,6 +147,35 @@ def looks(things, start):
     while doing and doing[-1] == []:
         doing.pop()
     return doing
+
+
+def drawn_doing(web, rounds, seed):
+    """Rounds of a web, full ones, short ones and empty ones, that each seed settles."""
+    doing = []
+    for at in range(rounds):
+        state = seed * 1009 + at
+        most, used, exchanges = shuffled(range(web[0] // 2 + 1), state)[0], set(), []
+        for pair in shuffled(web[1], state):
+            if len(exchanges) < most and not used & set(pair):
+                exchanges.append(pair)
+                used |= set(pair)
+        doing.append(sorted(exchanges))
+    return doing
+
+
+def many_doings(web, rounds):
+    """Doings of a web: none and empty rounds alone, drawn ones, rounds done twice, ones undone behind it."""
+    yield []
+    yield [[]]
+    yield [[], [], []]
+    for seed, most in enumerate(rounds):
+        drawn = drawn_doing(web, most, seed)
+        yield drawn
+        yield [exchanges for exchanges in drawn for _ in range(2)]
+        yield [exchanges for at, exchanges in enumerate(drawn) for _ in range(1 + at % 3)]
+        yield drawn + drawn[::-1]
+        yield drawn + [[]] + drawn[::-1] + drawn[:most // 2]
+        yield drawn[:most // 2] + drawn[::-1] + drawn
 
 
 def lists_in(told):

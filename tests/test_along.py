@@ -1,28 +1,15 @@
 """Points 17 to 19, and 2, 3 and 4 as they bear on these."""
 
 import unittest
-from itertools import combinations, permutations, product
+from itertools import permutations, product
 
 from ledhome.along import home_along, never_home, tree_of
 from ledhome.errors import NeverHome, NoThings
-from ledhome.webs import cube_web, grid_web, line_web, ring_web, tree_web, web_of
+from ledhome.webs import cube_web, line_web, tree_web, web_of
 from samples import (
-    BARE, CUBE, GREAT, GRID, LINE, ONE, PARTS, RING, TREE, WEBS, Case,
+    BARE, CUBE, GREAT, GREAT_WEBS, GRID, LINE, NO_THINGS, ONE, PARTS, RING, TREE, WEBS, Case,
     distances, every_things, many_things, shuffled, small_webs, turned,
 )
-
-NO_THINGS = [
-    [], [0, 1, 2, 3], [0, 1, 2, 3, 4, 5], [0, 1, 2, 3, 5], [0, 1, 2, 3, -1], [0, 1, 2, 3, 3], [1, 2, 3, 4, 5],
-    [GREAT, 1, 2, 3, 4], [-GREAT, 1, 2, 3, 4], [4, 4, 4, 4, 4],
-]
-
-STAR = tree_web([0] * 39)
-FULL = web_of(40, list(combinations(range(40), 2)))
-GREAT_WEBS = [
-    line_web(40), ring_web(40), grid_web(5, 8), cube_web(5), STAR, FULL, web_of(40, [(k, 39) for k in range(39)]),
-    tree_web([k // 2 for k in range(39)]), tree_web([max(0, k - 3) for k in range(39)]),
-    web_of(40, [(k, k + 5) for k in range(35)] + [(k, k * 3 % 40) for k in range(1, 20)] + [(0, 39)]),
-]
 
 
 def web_of_parts(parts):

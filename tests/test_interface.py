@@ -23,7 +23,14 @@ FUNCTIONS = {
     "cubes": {"halves_of": 1, "cube_home": 2},
     "rings": {"ring_home": 1, "shorter_ways": 1},
     "kinds": {"homes_for": 3, "least_for": 3, "how_many_come": 2},
+    "shorter": {"moved_ahead": 2, "undone_left_out": 2, "where_to": 2, "do_alike": 3, "pairs_like_one": 1},
+    "beside": {"webs_beside": 2, "things_beside": 4, "doing_beside": 4, "web_crossed": 2},
+    "texts": {
+        "web_text": 1, "things_text": 1, "doing_text": 1, "read_web": 1, "read_things": 1, "read_doing": 1,
+    },
 }
+
+METHODS = {"desk": {"Desk": {"say": 1}}}
 
 
 class Interface(unittest.TestCase):
@@ -40,6 +47,19 @@ class Interface(unittest.TestCase):
             for name, many in functions.items():
                 with self.subTest(name):
                     inspect.signature(getattr(module, name)).bind(*[None] * many)
+
+    def test_each_method_is_defined_in_its_class(self):
+        for file, classes in METHODS.items():
+            rows = ast.parse((FOLDER / f"{file}.py").read_text()).body
+            module = import_module(f"ledhome.{file}")
+            for name, methods in classes.items():
+                body = [row.body for row in rows if isinstance(row, ast.ClassDef) and row.name == name]
+                self.assertEqual(len(body), 1)
+                defined = [row.name for row in body[0] if isinstance(row, ast.FunctionDef)]
+                made = getattr(module, name)()
+                for method, many in methods.items():
+                    self.assertIn(method, defined)
+                    inspect.signature(getattr(made, method)).bind(*[None] * many)
 
 
 class Form(unittest.TestCase):

@@ -8,7 +8,7 @@ from ledhome.errors import NeverHome, NoThings, TooMany
 from ledhome.least import all_rounds, how_many_least, least_home, levels_of, levels_show
 from ledhome.webs import cube_web, grid_web, line_web, ring_web, tree_web, web_of
 from samples import (
-    BARE, GREAT, GRID, LINE, ONE, PARTS, RING, TREE, WEBS, Case,
+    BARE, GREAT, GRID, LINE, NO_THINGS, ONE, PARTS, RING, TREE, WEBS, Case,
     every_round, every_things, fewest_rounds, least_doings, many_things, moved, small_webs, turned,
 )
 
@@ -17,11 +17,6 @@ FULL = web_of(6, list(combinations(range(6), 2)))
 SIX = [line_web(6), ring_web(6), GRID, TREE, STAR, FULL, tree_web([0, 0, 1, 1, 0]), grid_web(1, 6),
        web_of(6, [(0, 5), (5, 2), (2, 4), (4, 1), (1, 3)]), web_of(6, [(0, 1), (1, 2), (0, 2), (3, 4), (4, 5)]),
        web_of(6, [(0, 3), (1, 4)]), (6, [])]
-
-NO_THINGS = [
-    [], [0, 1, 2, 3], [0, 1, 2, 3, 4, 5], [0, 1, 2, 3, 5], [0, 1, 2, 3, -1], [0, 1, 2, 3, 3], [1, 2, 3, 4, 5],
-    [GREAT, 1, 2, 3, 4], [-GREAT, 1, 2, 3, 4], [4, 4, 4, 4, 4],
-]
 
 # Seven places, of few pairs and of very many: fifteen pairs, and sixteen.
 PAIRS = list(combinations(range(7), 2))

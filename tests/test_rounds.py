@@ -8,7 +8,7 @@ from ledhome.errors import NoRound, NoThings
 from ledhome.rounds import behind_doing, behind_round, far_from_home, leads_home, turned_about
 from ledhome.webs import cube_web, line_web, ring_web, web_of
 from samples import (
-    BARE, CUBE, GREAT, GRID, LINE, ONE, PARTS, RING, TREE, WEBS, Case,
+    BARE, CUBE, GREAT, GRID, LINE, NO_ROUNDS, NO_THINGS, ONE, PARTS, RING, TREE, WEBS, Case,
     distances, every_round, every_things, moved, small_webs, turned,
 )
 
@@ -22,28 +22,6 @@ DOINGS = [
     (PARTS, [[(0, 2), (1, 5)], [], [(2, 6), (3, 5)]]),
     (BARE, [[], []]),
     (ONE, [[]]),
-]
-
-NO_THINGS = [[], [0, 1, 2, 3], [0, 1, 2, 3, 4, 5], [0, 1, 2, 3, 5], [0, 1, 2, 3, -1], [0, 1, 2, 3, 3],
-             [0, 0, 2, 3, 4], [GREAT, 1, 2, 3, 4], [-GREAT, 1, 2, 3, 4], [5, 4, 3, 2, 1], [4, 4, 4, 4, 4],
-             [0, 1, 2, 3, 4, 4], [1, 2, 3, 4]]
-
-# What is no round of the line of five places, each for one reason.
-NO_ROUNDS = [
-    [(2, 3), (0, 1)],
-    [(1, 0)],
-    [(0, 1), (3, 2)],
-    [(0, 1), (0, 1)],
-    [(0, 1), (2, 3), (2, 3)],
-    [(0, 1), (1, 2)],
-    [(0, 2)],
-    [(0, 1), (2, 4)],
-    [(2, 2)],
-    [(4, 5)],
-    [(-1, 0)],
-    [(GREAT, GREAT + 1)],
-    [(-GREAT, 3)],
-    [(0, 1), (4, GREAT)],
 ]
 
 
